@@ -6,17 +6,21 @@ import (
 )
 
 // A guarded slice is an argument with spare capacity behind it; check reports whether anything of either was written to.
-type guarded[T byte | int] struct {
+type guarded[T byte | int | string] struct {
 	slice  []T
 	before []T
 }
 
 func guard[T byte | int](l []T) guarded[T] {
-	whole := slices.Clone(l)
+	spare := []T{}
 	for i := range 40 {
-		whole = append(whole, T(100+i))
+		spare = append(spare, T(100+i))
 	}
-	whole = slices.Clip(whole)
+	return guardWith(l, spare)
+}
+
+func guardWith[T byte | int | string](l []T, spare []T) guarded[T] {
+	whole := slices.Clip(slices.Concat(l, spare))
 	return guarded[T]{slice: whole[:len(l)], before: slices.Clone(whole)}
 }
 
