@@ -6,7 +6,7 @@ import (
 )
 
 // A guarded slice is an argument with spare capacity behind it; check reports whether anything of either was written to.
-type guarded[T byte | int | string] struct {
+type guarded[T comparable] struct {
 	slice  []T
 	before []T
 }
@@ -19,7 +19,7 @@ func guard[T byte | int](l []T) guarded[T] {
 	return guardWith(l, spare)
 }
 
-func guardWith[T byte | int | string](l []T, spare []T) guarded[T] {
+func guardWith[T comparable](l []T, spare []T) guarded[T] {
 	whole := slices.Clip(slices.Concat(l, spare))
 	return guarded[T]{slice: whole[:len(l)], before: slices.Clone(whole)}
 }
