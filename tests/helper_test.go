@@ -3,6 +3,8 @@ package tests
 import (
 	"slices"
 	"testing"
+
+	"loop.example/g00507/impl"
 )
 
 // A guarded slice is an argument with spare capacity behind it; check reports whether anything of either was written to.
@@ -28,6 +30,39 @@ func (g guarded[T]) check(t *testing.T, what string) {
 	t.Helper()
 	if whole := g.slice[:cap(g.slice)]; !slices.Equal(whole, g.before) {
 		t.Errorf("%s: the argument, with its spare capacity, is %v, want %v", what, whole, g.before)
+	}
+}
+
+// A guardedList is a guarded slice of elements with names, which have spare capacity behind their parts, too.
+type guardedList[T any] struct {
+	slice  []T
+	parts  []guarded[string]
+	text   func([]T) string
+	before string
+}
+
+// guardList reaches the name of each element by nameIn; text is the same for equal lists only.
+func guardList[T any](l []T, spare []T, nameIn func(*T) *impl.Name, text func([]T) string) guardedList[T] {
+	g := guardedList[T]{text: text}
+	whole := slices.Clip(slices.Concat(l, spare))
+	for i := range whole {
+		n := nameIn(&whole[i])
+		parts := guardWith(n.Parts, spareParts)
+		g.parts = append(g.parts, parts)
+		n.Parts = parts.slice
+	}
+	g.slice = whole[:len(l)]
+	g.before = text(whole)
+	return g
+}
+
+func (g guardedList[T]) check(t *testing.T, what string) {
+	t.Helper()
+	if after := g.text(g.slice[:cap(g.slice)]); after != g.before {
+		t.Errorf("%s: the list, with its spare capacity, is %s, want %s", what, after, g.before)
+	}
+	for _, parts := range g.parts {
+		parts.check(t, what+", a name of the list")
 	}
 }
 

@@ -660,34 +660,9 @@ func TestPutEntryInEachOrder(t *testing.T) {
 	put(nil, want)
 }
 
-// A guardedTable has spare capacity behind its entries and behind the parts of each name.
-type guardedTable struct {
-	slice  []impl.TableEntry
-	parts  []guarded[string]
-	before string
-}
-
-func guardTable(l []impl.TableEntry) guardedTable {
-	g := guardedTable{}
-	whole := []impl.TableEntry{}
-	for _, e := range slices.Concat(l, tableOf("/q", "/a", "/", "/r", "/a/b", "/q", "/n002", "/z")) {
-		parts := guardWith(e.Name.Parts, spareParts)
-		g.parts = append(g.parts, parts)
-		whole = append(whole, impl.TableEntry{Name: impl.Name{Parts: parts.slice}, Value: e.Value})
-	}
-	g.slice = slices.Clip(whole)[:len(l)]
-	g.before = tableText(whole)
-	return g
-}
-
-func (g guardedTable) check(t *testing.T, what string) {
-	t.Helper()
-	if after := tableText(g.slice[:cap(g.slice)]); after != g.before {
-		t.Errorf("%s: the table, with its spare capacity, is %s, want %s", what, after, g.before)
-	}
-	for _, parts := range g.parts {
-		parts.check(t, what+", a name of the table")
-	}
+func guardTable(l []impl.TableEntry) guardedList[impl.TableEntry] {
+	spare := tableOf("/q", "/a", "/", "/r", "/a/b", "/q", "/n002", "/z")
+	return guardList(l, spare, func(e *impl.TableEntry) *impl.Name { return &e.Name }, tableText)
 }
 
 // scribbleTable changes all of a table's memory, and that of its names.
