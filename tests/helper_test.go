@@ -3,8 +3,6 @@ package tests
 import (
 	"slices"
 	"testing"
-
-	"loop.example/g00507/impl"
 )
 
 // A guarded slice is an argument with spare capacity behind it; check reports whether anything of either was written to.
@@ -33,7 +31,7 @@ func (g guarded[T]) check(t *testing.T, what string) {
 	}
 }
 
-// A guardedList is a guarded slice of elements with names, which have spare capacity behind their parts, too.
+// A guardedList is a guarded slice of elements with names or patterns, which have spare capacity behind their parts, too.
 type guardedList[T any] struct {
 	slice  []T
 	parts  []guarded[string]
@@ -41,15 +39,16 @@ type guardedList[T any] struct {
 	before string
 }
 
-// guardList reaches the name of each element by nameIn; text is the same for equal lists only.
-func guardList[T any](l []T, spare []T, nameIn func(*T) *impl.Name, text func([]T) string) guardedList[T] {
+// guardList reaches the parts in each element by partsIn; text is the same for equal lists only.
+func guardList[T any](l []T, spare []T, partsIn func(*T) []*[]string, text func([]T) string) guardedList[T] {
 	g := guardedList[T]{text: text}
 	whole := slices.Clip(slices.Concat(l, spare))
 	for i := range whole {
-		n := nameIn(&whole[i])
-		parts := guardWith(n.Parts, spareParts)
-		g.parts = append(g.parts, parts)
-		n.Parts = parts.slice
+		for _, at := range partsIn(&whole[i]) {
+			parts := guardWith(*at, spareParts)
+			g.parts = append(g.parts, parts)
+			*at = parts.slice
+		}
 	}
 	g.slice = whole[:len(l)]
 	g.before = text(whole)
@@ -62,7 +61,7 @@ func (g guardedList[T]) check(t *testing.T, what string) {
 		t.Errorf("%s: the list, with its spare capacity, is %s, want %s", what, after, g.before)
 	}
 	for _, parts := range g.parts {
-		parts.check(t, what+", a name of the list")
+		parts.check(t, what+", parts in the list")
 	}
 }
 

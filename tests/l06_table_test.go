@@ -662,7 +662,7 @@ func TestPutEntryInEachOrder(t *testing.T) {
 
 func guardTable(l []impl.TableEntry) guardedList[impl.TableEntry] {
 	spare := tableOf("/q", "/a", "/", "/r", "/a/b", "/q", "/n002", "/z")
-	return guardList(l, spare, func(e *impl.TableEntry) *impl.Name { return &e.Name }, tableText)
+	return guardList(l, spare, func(e *impl.TableEntry) []*[]string { return []*[]string{&e.Name.Parts} }, tableText)
 }
 
 // scribbleTable changes all of a table's memory, and that of its names.

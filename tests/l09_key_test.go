@@ -785,7 +785,7 @@ func TestFormatKeys(t *testing.T) {
 }
 
 func guardKeys(l []impl.Key) guardedList[impl.Key] {
-	return guardList(l, keysOf("/q", "/a", "/", "/r", "/a/b", "/z"), func(k *impl.Key) *impl.Name { return &k.Name }, keysText)
+	return guardList(l, keysOf("/q", "/a", "/", "/r", "/a/b", "/z"), func(k *impl.Key) []*[]string { return []*[]string{&k.Name.Parts} }, keysText)
 }
 
 // scribbleKeys changes all memory of keys, and that of their names.
