@@ -578,15 +578,15 @@ func TestNextHops(t *testing.T) {
 	}
 }
 
-// eachOrder calls f with the routes in each of their orders.
-func eachOrder(l []impl.Route, f func([]impl.Route)) {
-	var order func(ordered []impl.Route, rest []impl.Route)
-	order = func(ordered []impl.Route, rest []impl.Route) {
+// eachOrder calls f with the elements in each of their orders.
+func eachOrder[T any](l []T, f func([]T)) {
+	var order func(ordered []T, rest []T)
+	order = func(ordered []T, rest []T) {
 		if len(rest) == 0 {
 			f(ordered)
 		}
-		for i, r := range rest {
-			order(append(slices.Clone(ordered), r), slices.Delete(slices.Clone(rest), i, i+1))
+		for i, x := range rest {
+			order(append(slices.Clone(ordered), x), slices.Delete(slices.Clone(rest), i, i+1))
 		}
 	}
 	order(nil, l)
